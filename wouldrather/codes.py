@@ -1,0 +1,27 @@
+"""The numbers that stand for calls and for refusals."""
+
+BEGIN = 0
+LIKELIER = 1
+UNLIKELIER = 2
+LOT = 3
+UNLOT = 4
+PRIZE = 5
+RATHER = 6
+UNRATHER = 7
+BACK = 8
+AGAIN = 9
+CHANCES = 10
+WAYS = 11
+LEAST = 12
+FITS = 13
+WORTH = 14
+MORE = 15
+WRONG = 25
+
+NONE_SUCH = -2
+NOTHING_THERE = -6
+BEFORE_BEGIN = -11
+NOT_RIGHT = -22
+TOO_MANY = -28
+NO_NUMBERS = -33
+NO_CHANCES = -61
