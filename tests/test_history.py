@@ -71,11 +71,27 @@ class BackAndAgain(unittest.TestCase):
         self.assertEqual(found[2:], [[0], [1], [0], [-6]])
 
     def test_asking_is_no_change(self):
-        asked = PROBES[:4] + [("more", 0, 1), ("fits", [2, 1])]
-        found = said(*GROUND, ("back",), *asked, ("again",), *asked, ("back",))
-        self.assertEqual(found[len(GROUND)], [5])
-        self.assertEqual(found[len(GROUND) + 7], [0])
-        self.assertEqual(found[-1], [5])
+        asked = PROBES[:4] + [
+            ("more", 0, 1), ("fits", [2, 1]), ("may", 0, 0, 1), ("ineach", 0, 1), ("best",), ("maybest",), ("prizes", 0, 1),
+            ("learn", 1), ("learnall",), ("clashes",), ("spare",), ("wrong", [2, 1]), ("side", 0), ("rules", 1, 2),
+            ("look", 0), ("told", 0), ("state",)]
+        for call in asked:
+            with self.subTest(call):
+                found = said(*GROUND, ("back",), ("state",), call, ("state",), ("again",), call, ("state",), ("back",))
+                found = found[len(GROUND):]
+                self.assertEqual(found[0], [5])
+                self.assertEqual(found[1], [2, 2, 2, 2, 1, 5, 1])
+                self.assertEqual(found[3], found[1])
+                self.assertEqual(found[4], [0])
+                self.assertEqual(found[6:], [[2, 2, 2, 2, 2, 6, 0], [5]])
+
+    def test_refused_asking_is_no_change(self):
+        asked = [("worth", 9), ("more", 9, 0), ("fits", [9]), ("may", 3, 0, 1), ("may", 0, 9, 0), ("ineach", 0, 9),
+                 ("prizes", 9, 0), ("learn", 9), ("clashes",), ("wrong", [9]), ("side", 9), ("rules", 9, 0), ("look", 9),
+                 ("told", 9)]
+        found = said(*GROUND, ("back",), *asked, ("state",), ("again",), ("state",))[len(GROUND) + 1:]
+        self.assertEqual([answer[0] < 0 and len(answer) == 1 for answer in found[:14]], [True] * 14)
+        self.assertEqual(found[14:], [[2, 2, 2, 2, 1, 5, 1], [0], [2, 2, 2, 2, 2, 6, 0]])
 
     def test_a_change_behind_a_back(self):
         found = said(("begin", 1, 3), ("lot", [0]), ("lot", [1]), ("lot", [2]), ("back",), ("back",), ("lot", [2]),

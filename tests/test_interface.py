@@ -25,17 +25,33 @@ class Form(unittest.TestCase):
         self.assertEqual(answers([0, 5, 1]), [1, -22])
 
     def test_answers_are_plain_whole_numbers(self):
-        calls = line([("begin", 1, 2), ("lot", [0]), ("lot", [1]), ("rather", 1, 0, 1), ("fits", [2, 1]),
-                      ("fits", [1, 2]), ("more", 0, 1), ("more", 1, 0), ("worth", 0), ("chances",), ("ways",)])
-        found = answers(calls)
-        self.assertIs(type(found), list)
-        self.assertEqual({type(number) for number in found}, {int})
+        for told in ((1, 0, 1), (0, 0, 1), (2, 1, 1), (0, 0, 0)):
+            ground = [("begin", 1, 2), ("lot", [0]), ("lot", [1]), ("rather",) + told]
+            asked = [("fits", [2, 1]), ("fits", [1, 2]), ("more", 0, 1), ("more", 1, 0), ("worth", 0), ("chances",),
+                     ("ways",), ("may", 0, 0, 1), ("ineach", 0, 1), ("best",), ("maybest",), ("prizes", 0, 1),
+                     ("learn", 1), ("learnall",), ("clashes",), ("spare",), ("wrong", [1, 1]), ("side", 0),
+                     ("rules", 1, 0), ("look", 0), ("told", 0), ("state",)]
+            found = answers(line(ground + asked))
+            self.assertIs(type(found), list)
+            self.assertEqual({type(number) for number in found}, {int})
+
+    def test_how_many_numbers_each_answer_has(self):
+        ground = [("begin", 2, 3), ("lot", [0, 1]), ("lot", [1, 1]), ("rather", 1, 0, 1)]
+        sizes = {("may", 0, 0, 1): 1, ("ineach", 0, 1): 1, ("prizes", 0, 1): 1, ("learn", 1): 3, ("learnall",): 3,
+                 ("side", 0): 4, ("rules", 1, 2): 1, ("look", 0): 3, ("told", 0): 3, ("state",): 7}
+        self.assertEqual([len(answer) for answer in said(*ground, *sizes)[4:]], list(sizes.values()))
+        for call in (("best",), ("maybest",), ("spare",), ("wrong", [1, 2, 3])):
+            answer = last(*ground, call)
+            self.assertEqual(answer[0], len(answer) - 1)
 
     def test_what_is_handed_in_stays(self):
         calls = line([("begin", 2, 2), ("lot", [0, 1]), ("prize", 0, 0, 1), ("lot", [1, 1]), ("rather", 2, 0, 1),
-                      ("back",), ("again",), ("unlot", 0), ("fits", [1, 8]), ("likelier", 0, 1, 2), ("chances",)])
+                      ("back",), ("again",), ("look", 1), ("spare",), ("best",), ("learnall",), ("unlot", 0),
+                      ("fits", [1, 8]), ("wrong", [8, 1]), ("likelier", 0, 1, 2), ("chances",), ("rules", 1, 2)])
         before = list(calls)
-        answers(calls)
+        first = answers(calls)
+        self.assertEqual(calls, before)
+        self.assertEqual(answers(calls), first)
         self.assertEqual(calls, before)
 
     def test_nothing_is_kept_between_runs(self):
@@ -82,8 +98,9 @@ class BeforeBegin(unittest.TestCase):
                 self.assertEqual(said(("begin", 0, 1), call, ("begin", 1, 1)), [[-22], [-11], [0]])
 
     def test_ahead_of_every_other_refusal(self):
-        wrong = [("likelier", BIG, BIG, BIG), ("unlot", BIG), ("rather", BIG, BIG, BIG), ("fits", [BIG]), ("lot", [])]
-        self.assertEqual(said(*wrong), [[-11]] * 5)
+        wrong = [("likelier", BIG, BIG, BIG), ("unlot", BIG), ("rather", BIG, BIG, BIG), ("fits", [BIG]), ("lot", []),
+                 ("may", BIG, BIG, BIG), ("learn", BIG), ("wrong", []), ("rules", BIG, BIG), ("told", BIG)]
+        self.assertEqual(said(*wrong), [[-11]] * 10)
 
     def test_nothing_is_kept_from_ahead_of_a_begin(self):
         self.assertEqual(last(("lot", [0]), ("likelier", 0, 1, 0), ("begin", 1, 1), ("back",)), [-6])

@@ -5,7 +5,8 @@ is None where the call is refused, so that nothing changes.
 """
 
 from wouldrather.codes import LIKELIER, LOT, NONE_SUCH, NOT_RIGHT, PRIZE, RATHER, TOO_MANY, UNLIKELIER, UNLOT
-from wouldrather.telling import has_lot, has_lots, is_kind, is_world_set, with_likelier, with_lots, with_rather
+from wouldrather.telling import has_lot, has_lots, has_prize, is_kind, is_world_set
+from wouldrather.telling import with_likelier, with_lots, with_rather
 
 MOST_LIKELIER = 4
 MOST_LOTS = 5
@@ -40,7 +41,7 @@ def untell_likelier(told, place):
 
 
 def is_prize_for_each_world(told, prizes):
-    return len(prizes) == told.worlds and all([prize < told.prizes for prize in prizes])
+    return len(prizes) == told.worlds and all([has_prize(told, prize) for prize in prizes])
 
 
 def add_lot(told, prizes):
@@ -73,7 +74,7 @@ def remove_lot(told, lot):
 
 
 def set_prize(told, lot, world, prize):
-    if not has_lot(told, lot) or world >= told.worlds or prize >= told.prizes:
+    if not has_lot(told, lot) or world >= told.worlds or not has_prize(told, prize):
         return refused(NONE_SUCH)
     prizes = told.lots[lot]
     lots = replaced(told.lots, lot, replaced(prizes, world, prize))

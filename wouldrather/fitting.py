@@ -46,21 +46,28 @@ def weighed(weights, numbers):
     return sum([weight * number for weight, number in zip(weights, numbers)])
 
 
+def rather_gaps(told, shares):
+    """Each that is told rather as a pair: its kind, and the gaps between its lots."""
+    return [(kind, prize_gaps(told, shares, first, second)) for kind, first, second in told.rather]
+
+
 def numbers_agree(kind, gaps, numbers):
     return holds(kind, weighed(gaps, numbers), 0)
 
 
-def numbers_fit(told, shares, numbers):
-    for kind, first, second in told.rather:
-        if not numbers_agree(kind, prize_gaps(told, shares, first, second), numbers):
-            return False
-    return True
+def agreeing(kind, gaps, rows):
+    """Those of several numbers that agree, in their order."""
+    return [numbers for numbers in rows if numbers_agree(kind, gaps, numbers)]
+
+
+def disagreed_with(tellings, numbers):
+    """The places of the tellings, pairs of a kind and gaps, that the numbers don't agree with."""
+    return [place for place, one in enumerate(tellings) if not numbers_agree(one[0], one[1], numbers)]
 
 
 def all_that_fit(told, shares):
     """The numbers that agree with all that is told rather, in order."""
     found = all_numbers(told.prizes)
-    for kind, first, second in told.rather:
-        gaps = prize_gaps(told, shares, first, second)
-        found = [numbers for numbers in found if numbers_agree(kind, gaps, numbers)]
+    for kind, gaps in rather_gaps(told, shares):
+        found = agreeing(kind, gaps, found)
     return found

@@ -2,7 +2,8 @@
 
 from wouldrather.asking import asked
 from wouldrather.changes import changed
-from wouldrather.codes import AGAIN, BACK, BEFORE_BEGIN, BEGIN, MORE, NOT_RIGHT, NOTHING_THERE, UNRATHER
+from wouldrather.codes import AGAIN, BACK, BEFORE_BEGIN, BEGIN, NOT_RIGHT, NOTHING_THERE, SIDE, STATE, UNRATHER
+from wouldrather.recalling import recalled
 from wouldrather.telling import Told
 
 MOST_WORLDS = 4
@@ -31,9 +32,11 @@ class Session:
             return self.take_back()
         if call == AGAIN:
             return self.do_again()
-        if call > MORE:
-            raise NotImplementedError("calls above 15 are not built yet")
-        return asked(self.told, call, given)
+        if call == STATE:
+            return self.state()
+        if call <= SIDE:
+            return asked(self.told, call, given)
+        return recalled(self.told, call, given)
 
     def begin(self, worlds, prizes):
         if not 1 <= worlds <= MOST_WORLDS or not 1 <= prizes <= MOST_PRIZES:
@@ -64,3 +67,8 @@ class Session:
         self.before.append(self.told)
         self.told = self.behind.pop()
         return [len(self.behind)]
+
+    def state(self):
+        told = self.told
+        counts = [len(rows) for rows in (told.likelier, told.lots, told.rather, self.before, self.behind)]
+        return [told.worlds, told.prizes] + counts

@@ -1,5 +1,6 @@
 """Shares of the worlds, and the chances gone by."""
 
+from wouldrather.members import is_member
 from wouldrather.telling import holds
 
 MOST_TOGETHER = 10
@@ -17,7 +18,7 @@ def splits(total, parts):
 
 
 def set_share(shares, chosen):
-    return sum([share for world, share in enumerate(shares) if (chosen >> world) & 1 == 1])
+    return sum([share for world, share in enumerate(shares) if is_member(chosen, world)])
 
 
 def shares_agree(likelier, shares):

@@ -47,6 +47,10 @@ def has_lots(told, first, second):
     return has_lot(told, first) and has_lot(told, second)
 
 
+def has_prize(told, prize):
+    return prize < told.prizes
+
+
 def holds(kind, first, second):
     """Whether two amounts stand to each other as the kind says."""
     if kind == 0:
